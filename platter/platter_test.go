@@ -143,9 +143,8 @@ func TestQuotaAtItsEnds(t *testing.T) {
 	is(t, "one byte of none", d.Append("a", []byte{1}), api.ErrQuota)
 	d = fresh(t, api.MaxQuota)
 	put(t, d, "a", "x")
-	if d.Used(); d.Append("a", nil) != api.OK {
-		t.Error("Append of nil")
-	}
+	is(t, "nil", d.Append("a", nil), api.OK)
+	holds(t, d, "a=x")
 }
 
 func TestPlan(t *testing.T) {
