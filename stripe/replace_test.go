@@ -1,0 +1,196 @@
+package stripe_test
+
+import (
+	"slices"
+	"testing"
+
+	"sluice/api"
+	"sluice/stripe"
+)
+
+// laden gives a stripe of n members with some files, some of it durable, and perhaps a member out.
+func laden(t *testing.T, n, out int) *world {
+	t.Helper()
+	w := newWorld(t, dice(77), n, 16)
+	w.create("a")
+	w.append("a", w.some(100))
+	w.sync("a")
+	w.create("b")
+	w.append("b", w.some(7))
+	w.create("c")
+	w.syncDir()
+	w.append("a", w.some(33))
+	if out >= 0 {
+		w.rigs[out].wait, w.rigs[out].fault = 0, api.Fault{Kind: api.FaultDown}
+		w.append("b", w.some(40))
+		w.sync("b")
+	}
+	w.append("b", w.some(3))
+	w.create("d")
+	w.append("d", w.some(5))
+	return w
+}
+
+// copied gives a world with copies of the disks.
+func (w *world) copied(put ...*rig) []api.Volume {
+	var l []api.Volume
+	for _, r := range append(w.rigs[:len(w.rigs):len(w.rigs)], put...) {
+		l = append(l, r.Disk.Copy())
+	}
+	return l
+}
+
+// v fails in any way, at any of its operations: that is the answer, all is as it was, and v is out if it is handed to Open (P5.8).
+func TestReplaceFails(t *testing.T) {
+	for _, out := range []int{-1, 1} {
+		for _, kind := range []int{api.FaultWrite, api.FaultTorn, api.FaultSync, api.FaultOff, api.FaultDown} {
+			struck := 0
+			for k := 0; ; k++ {
+				w := laden(t, 3, out)
+				v := newRig(t, 1<<20)
+				v.wait, v.fault = k, api.Fault{Kind: kind, N: 5}
+				e := w.s.Replace(1, v)
+				if v.wait >= 0 {
+					break
+				}
+				if e == api.OK {
+					continue // the fault did not fit
+				}
+				struck++
+				want := api.ErrIO
+				if kind == api.FaultOff {
+					want = api.ErrOff
+				}
+				if e != want || w.s.Out() != out {
+					t.Fatalf("kind %d at %d: %v, out %d", kind, k, e, w.s.Out())
+				}
+				w.readAll()
+				v.Disk.Mend()
+				w.keep(v, k%2)
+				l := w.copied(v)
+				s, e := stripe.Open(l[0], l[3], l[2])
+				if e != api.OK || s.Out() != 1 {
+					t.Fatalf("kind %d at %d: Open with the new one: %v, out %d", kind, k, e, s.Out())
+				}
+				w.append("a", w.some(3))
+				w.sync("a")
+				w.syncDir()
+				s, e = stripe.Open(w.copied()...)
+				if e != api.OK {
+					t.Fatalf("kind %d at %d: Open with the old one: %v", kind, k, e)
+				}
+				w.reopened(s, w.sure, true)
+			}
+			if struck == 0 {
+				t.Fatalf("kind %d never struck", kind)
+			}
+		}
+	}
+}
+
+// keep lets the power of a disk go and come: it keeps nothing, all, or what it likes.
+func (w *world) keep(r *rig, mode int) {
+	switch mode {
+	case 0:
+		r.Disk.Restart(0)
+	case 1:
+		r.Disk.Restart(1<<20, slices.Repeat([]int64{1 << 20}, 20)...)
+	default:
+		w.restart(r)
+	}
+}
+
+// The power of all goes at any operation of a Replace: the old member is in its place as before; v is out (but where the only thing that is missing is the answer).
+func TestReplaceBrokenOff(t *testing.T) {
+	for _, out := range []int{-1, 1} {
+		for n := 3; n < 6; n++ {
+			for mode := range 3 {
+				in := 0
+				for k := 0; ; k++ {
+					w := laden(t, n, out)
+					w.strict = false
+					v := newRig(t, 1<<20)
+					all := &count{at: k}
+					rigs := append(w.rigs[:n:n], v)
+					for _, r := range rigs {
+						r.hook = all
+					}
+					e := w.s.Replace(1, v)
+					if e == api.OK {
+						break
+					}
+					if e != api.ErrOff {
+						t.Fatalf("%d of %d at %d: %v", mode, n, k, e)
+					}
+					for _, r := range rigs {
+						r.hook = nil
+						w.keep(r, mode)
+						r.Disk.Mend()
+					}
+					l := w.copied(v)
+					l[1], l = l[n], l[:n]
+					s, e := stripe.Open(l...)
+					if e != api.OK {
+						t.Fatalf("%d of %d at %d: Open with the new one: %v", mode, n, k, e)
+					}
+					if s.Out() != 1 {
+						in++
+					}
+					s, e = stripe.Open(w.volumes()...)
+					if e != api.OK {
+						t.Fatalf("%d of %d at %d: Open with the old one: %v", mode, n, k, e)
+					}
+					w.strict = true
+					w.reopened(s, w.sure, true)
+				}
+				if in > 1 || in > 0 && mode == 0 {
+					t.Errorf("%d of %d: v is in %d times", mode, n, in)
+				}
+			}
+		}
+	}
+}
+
+// The power of one of the others goes, or it fails, at any operation of a Replace.
+func TestReplaceWhileAnotherFails(t *testing.T) {
+	for _, kind := range []int{api.FaultOff, api.FaultDown, api.FaultWrite, api.FaultSync, api.FaultRead} {
+		for _, out := range []int{-1, 1} {
+			for k := 0; ; k++ {
+				w := laden(t, 3, out)
+				w.strict = false
+				v := newRig(t, 1<<20)
+				r := w.rigs[2]
+				r.wait, r.fault = k, api.Fault{Kind: kind}
+				e := w.s.Replace(1, v)
+				if r.wait >= 0 {
+					break
+				}
+				if e == api.OK {
+					w.rigs[1] = v
+				} else if e != api.ErrTwo && e != api.ErrOff {
+					t.Fatalf("kind %d at %d: %v", kind, k, e)
+				}
+				if out < 0 {
+					w.strict = true // it is the only one that is bad
+					w.life2()
+				} else {
+					r.Disk.Mend()
+					w.readAll()
+				}
+				if e != api.OK && out >= 0 {
+					w.rigs[1].Disk.Mend()
+				}
+				r.Disk.Mend()
+				for _, r := range w.rigs {
+					w.keep(r, k%3)
+				}
+				s, e := stripe.Open(w.volumes()...)
+				if e != api.OK {
+					w.fail("kind %d at %d: Open: %v", kind, k, e)
+				}
+				w.strict = true
+				w.reopened(s, w.sure, true)
+			}
+		}
+	}
+}
