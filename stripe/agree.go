@@ -50,8 +50,10 @@ func (s *Stripe) agree(views []view) (accord, api.Errno) {
 	for _, gen := range generations(views) {
 		for _, seen := range views {
 			log, ok := seen.log(gen)
-			holders := s.holders(views, log)
-			if ok && s.enough(holders) && answered(views, log, holders) {
+			if !ok {
+				continue
+			}
+			if holders := s.holders(views, log); s.enough(holders) && answered(views, log, holders) {
 				return s.conclude(views, log, holders)
 			}
 		}
@@ -97,21 +99,15 @@ func (s *Stripe) enough(who [api.MaxMembers]bool) bool {
 	return n >= s.members-1
 }
 
-// ofReplace tells whether a log was begun by a Replace, and in which place.
-func (l relic) ofReplace() (int, bool) {
-	c, ok := readChart(l.chart, l.members)
-	return c.joining, ok && c.joining >= 0
-}
-
 // settled tells whether a log is not of a Replace, or tells itself that the Replace was answered.
 func settled(views []view, log relic, holders [api.MaxMembers]bool) bool {
-	_, open := log.ofReplace()
+	told := joiningOf(log.chart) < 0
 	for m, seen := range views {
 		if held, _ := seen.log(log.gen); holders[m] {
-			held.each(func(e entry) { open = open && e.kind != recordSettled })
+			held.each(func(e entry) { told = told || e.kind == recordSettled })
 		}
 	}
-	return !open
+	return told
 }
 
 // answered tells whether a log may be that of a Replace that was answered OK. If one of the members that stayed has never had it, it was broken off.
@@ -119,9 +115,8 @@ func answered(views []view, log relic, holders [api.MaxMembers]bool) bool {
 	if settled(views, log, holders) {
 		return true
 	}
-	joining, _ := log.ofReplace()
 	for m, seen := range views {
-		if m != joining && !holders[m] && seen.lacks(log.gen) {
+		if m != joiningOf(log.chart) && !holders[m] && seen.lacks(log.gen) {
 			return false
 		}
 	}
@@ -130,20 +125,19 @@ func answered(views []view, log relic, holders [api.MaxMembers]bool) bool {
 
 // conclude reads what the holders of a log agree upon. All but one must have had all that was durable. What a single one of them says of who is behind counts: it may be the only one left that has heard of it.
 func (s *Stripe) conclude(views []view, log relic, holders [api.MaxMembers]bool) (accord, api.Errno) {
-	c, ok := readChart(log.chart, log.members)
 	best := s.longest(views, log.gen, holders)
+	sure := holders
 	for m, seen := range views {
 		if held, _ := seen.log(log.gen); holders[m] && held.shared(best) == min(len(held.journal), len(best.journal)) {
-			held.each(c.leave)
+			held.each(func(e entry) { leave(&sure, e) })
 		}
 	}
 	ended := false
-	var sure [api.MaxMembers]bool
 	for m, seen := range views {
 		held, _ := seen.log(log.gen)
-		sure[m] = holders[m] && held.tenant > c.behind[m]
 		ended = ended || sure[m] && held.rest != spoilt && len(held.journal) <= len(best.journal)
 	}
+	c, ok := readChart(log.chart, log.members)
 	best.each(func(e entry) { ok = ok && c.apply(e) })
 	if !ok || !ended || !s.enough(sure) {
 		return accord{}, api.ErrTwo
@@ -175,13 +169,13 @@ func (s *Stripe) longest(views []view, gen uint32, holders [api.MaxMembers]bool)
 	return best
 }
 
-// leave takes in that a member was left out.
-func (c *chart) leave(e entry) {
+// leave takes in that a member was left out. (Whoever was so ahead of a log does not have it.)
+func leave(sure *[api.MaxMembers]bool, e entry) {
 	if e.kind != recordOut {
 		return
 	}
 	s := scroll{rest: e.body}
-	if m, tenant := s.number(1), uint32(s.number(4)); !s.bad && m < api.MaxMembers {
-		c.behind[m] = max(c.behind[m], tenant)
+	if m := s.number(1); !s.bad && m < api.MaxMembers {
+		sure[m] = false
 	}
 }

@@ -11,7 +11,6 @@ import (
 type chart struct {
 	joining int                    // the member whose place a Replace gives away by this log; -1: it is of no Replace
 	tenants [api.MaxMembers]uint32 // how manieth volume each member is in its place
-	behind  [api.MaxMembers]uint32 // volumes in that place up to this one lack something
 	names   map[string]uint64      // the files' numbers
 	synced  map[uint64]uint32      // how many rows of each are durable, by its number
 }
@@ -21,7 +20,6 @@ func (c chart) lay(members int) []byte {
 	b := number(nil, 1, uint64(c.joining+1))
 	for m := range members {
 		b = number(b, 4, uint64(c.tenants[m]))
-		b = number(b, 4, uint64(c.behind[m]))
 	}
 	b = number(b, 4, uint64(len(c.names)))
 	for _, name := range slices.Sorted(maps.Keys(c.names)) {
@@ -31,13 +29,18 @@ func (c chart) lay(members int) []byte {
 	return b
 }
 
+// joiningOf tells, of a chart's bytes, the member whose place a Replace gives away; -1: none.
+func joiningOf(b []byte) int {
+	s := scroll{rest: b}
+	return int(s.number(1)) - 1
+}
+
 // readChart reads what lay gives.
 func readChart(b []byte, members int) (chart, bool) {
 	s := scroll{rest: b}
 	c := chart{joining: int(s.number(1)) - 1, names: map[string]uint64{}, synced: map[uint64]uint32{}}
 	for m := range members {
 		c.tenants[m] = uint32(s.number(4))
-		c.behind[m] = uint32(s.number(4))
 	}
 	for range s.number(4) {
 		name, id := s.text(), s.number(8)
@@ -49,37 +52,33 @@ func readChart(b []byte, members int) (chart, bool) {
 	return c, !s.bad && len(s.rest) == 0
 }
 
-// apply takes in a record; false, if it is none of this directory.
+// apply takes in a record; false, if there is no such record.
 func (c chart) apply(e entry) bool {
 	s := scroll{rest: e.body}
 	switch e.kind {
 	case recordSynced:
 		c.synced[s.number(8)] = uint32(s.number(4))
 	case recordChanges:
-		for len(s.rest) > 0 {
-			if !c.change(&s) {
-				return false
-			}
+		for len(s.rest) > 0 && !s.bad {
+			c.change(&s)
 		}
 	}
 	return !s.bad
 }
 
 // change makes the next change of the directory.
-func (c chart) change(s *scroll) bool {
+func (c chart) change(s *scroll) {
 	kind, name := s.number(1), s.text()
-	id, there := c.names[name]
+	id := c.names[name]
 	switch kind {
 	case changeCreate:
 		c.names[name] = s.number(8)
-		return !there
 	case changeRename:
 		delete(c.names, name)
 		c.names[s.text()] = id
-		return there
 	case changeRemove:
 		delete(c.names, name)
-		return there
+	default:
+		s.bad = true
 	}
-	return false
 }

@@ -119,10 +119,7 @@ func (s *Stripe) commit() api.Errno {
 		return err
 	}
 	s.log.changes = nil
-	if err := s.purge(); err != api.OK {
-		return err
-	}
-	return s.tell()
+	return s.purge()
 }
 
 // purge takes what is doomed off the members, for good.

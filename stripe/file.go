@@ -43,13 +43,11 @@ func (f *file) extend(l layout, length int, gen, count uint32) {
 	f.bytes += int64(count) * l.piece(length)
 }
 
-// start tells where a row begins in the contents, and in the members' files.
-func (f *file) start(l layout, row uint32) (from, at int64) {
+// place tells where a row begins in the members' files.
+func (f *file) place(l layout, row uint32) int64 {
 	i := sort.Search(len(f.runs), func(i int) bool { return f.runs[i].row+f.runs[i].count > row })
 	if i == len(f.runs) {
-		return f.size, f.bytes
+		return f.bytes
 	}
-	r := f.runs[i]
-	skipped := int64(row - r.row)
-	return r.from + skipped*int64(r.length), r.at + skipped*l.piece(r.length)
+	return f.runs[i].at + int64(row-f.runs[i].row)*l.piece(f.runs[i].length)
 }

@@ -101,9 +101,6 @@ func (s *Stripe) newBook(gen uint32, tenants [api.MaxMembers]uint32, joining int
 	for name, f := range s.files {
 		c.names[name], c.synced[f.id] = f.id, f.held
 	}
-	if s.out >= 0 {
-		c.behind[s.out] = s.log.tenants[s.out]
-	}
 	return book{s.layout, gen, c, c.lay(s.members)}
 }
 
@@ -240,8 +237,7 @@ func (s *Stripe) notes() []entry {
 		list = append(list, entry{kind: recordSettled})
 	}
 	if s.out >= 0 && !s.log.noted {
-		body := number(number(nil, 1, uint64(s.out)), 4, uint64(s.log.tenants[s.out]))
-		list = append(list, entry{recordOut, body})
+		list = append(list, entry{recordOut, number(nil, 1, uint64(s.out))})
 	}
 	return list
 }

@@ -8,7 +8,7 @@ import (
 // tape is what a member holds of a file that nothing is known of yet.
 type tape struct {
 	size   int64  // -1: it can't be told
-	good   uint32 // so many rows from the first on are right
+	good   uint32 // so many rows are right
 	from   int64
 	window []byte // the bytes from there on
 }
@@ -32,8 +32,8 @@ func (s *Stripe) scan(f *file) (find, bool) {
 			break
 		}
 		for m := range s.members {
-			if t := &one.tapes[m]; right[m] && t.good == f.rows {
-				t.good++
+			if right[m] {
+				one.tapes[m].good++
 			}
 		}
 		f.extend(s.layout, told.length, told.gen, 1)
@@ -156,7 +156,7 @@ func (s *Stripe) mend(finds []find) (again bool, err api.Errno) {
 
 // accuse names the members that do not tell their pieces of a row, though their files are long enough for it: others have just never had it.
 func (s *Stripe) accuse(one find, missing *gap, liars *[api.MaxMembers]bool) {
-	_, end := one.f.start(s.layout, missing.row+1)
+	end := one.f.place(s.layout, missing.row+1)
 	for m := range s.members {
 		if missing.silent[m] && m != s.out && one.tapes[m].size >= end {
 			liars[m] = true
@@ -166,23 +166,14 @@ func (s *Stripe) accuse(one find, missing *gap, liars *[api.MaxMembers]bool) {
 
 // mendFile mends a file on a member.
 func (s *Stripe) mendFile(one find, m int) (api.Errno, *gap) {
-	f, t, v := one.f, one.tapes[m], s.volumes[m]
-	if f.rows == 0 {
+	f, t := one.f, one.tapes[m]
+	switch {
+	case f.rows == 0:
 		return api.OK, nil
+	case t.good == f.rows && t.size == f.bytes:
+		return s.volumes[m].Sync(f.name()), nil
 	}
-	from, at := f.start(s.layout, t.good)
-	if t.size != at {
-		return s.rewrite(f, m)
-	}
-	if at == 0 {
-		if err := v.Create(f.name()); err != api.OK && err != api.ErrTaken {
-			return err, nil
-		}
-	}
-	if err, missing := s.pour(f, m, v, f.name(), from); err != api.OK || missing != nil {
-		return err, missing
-	}
-	return v.Sync(f.name()), nil
+	return s.rewrite(f, m)
 }
 
 // rewrite puts a whole file in the place of one that a member has. Only one that is durable, and all there, is better than what it has now.
@@ -194,7 +185,7 @@ func (s *Stripe) rewrite(f *file, m int) (api.Errno, *gap) {
 	if err := v.Create(fresh); err != api.OK {
 		return err, nil
 	}
-	if err, missing := s.pour(f, m, v, fresh, 0); err != api.OK || missing != nil {
+	if err, missing := s.pour(f, m, v, fresh); err != api.OK || missing != nil {
 		return err, missing
 	}
 	if err := v.Sync(fresh); err != api.OK {
@@ -209,9 +200,9 @@ func (s *Stripe) rewrite(f *file, m int) (api.Errno, *gap) {
 	return v.Rename(fresh, f.name()), nil
 }
 
-// pour writes a member's pieces of the rows from a place of the contents on behind a file of a volume, as far as they can be told.
-func (s *Stripe) pour(f *file, m int, v api.Volume, name string, from int64) (api.Errno, *gap) {
-	for p := range s.spans(f, from, f.size) {
+// pour writes a member's pieces of a file to a volume, as far as they can be told.
+func (s *Stripe) pour(f *file, m int, v api.Volume, name string) (api.Errno, *gap) {
+	for p := range s.spans(f, 0, f.size) {
 		var pieces []byte
 		for row := p.first; row < p.first+p.count; row++ {
 			data, ok := p.row(row)

@@ -87,7 +87,7 @@ func (s *Stripe) sweep(agreed accord, views []view) api.Errno {
 		}
 		for _, name := range views[m].names {
 			gen, isLog := genOf(name)
-			if isLog && agreed.needs(gen, m, views) || !isLog && !strings.HasPrefix(name, freshPrefix) {
+			if isLog && agreed.needs(gen, views) || !isLog && !strings.HasPrefix(name, freshPrefix) {
 				continue
 			}
 			if err := v.Remove(name); err != api.OK && err != api.ErrNoFile {
@@ -98,12 +98,12 @@ func (s *Stripe) sweep(agreed accord, views []view) api.Errno {
 	})
 }
 
-// needs tells whether a log stays on a member till there is a newer one: the one that was agreed upon; of a member that lacks it the newest, for it to be known by, and all that others may have to agree upon with it, on them too; and as long as it matters who has had a Replace's log, all before it.
-func (a accord) needs(gen uint32, m int, views []view) bool {
+// needs tells whether a log stays on the members till there is a newer one: the one that was agreed upon; those before it that one who lacks it has, for others may have to agree with that one some day; and as long as it matters who has had a Replace's log, all before it.
+func (a accord) needs(gen uint32, views []view) bool {
 	switch {
 	case gen > a.gen:
-		return !a.holders[m] && gen == views[m].newest()
-	case gen == a.gen || !a.settled || !a.holders[m]:
+		return false
+	case gen == a.gen || !a.settled:
 		return true
 	}
 	for o, other := range views {
@@ -121,7 +121,9 @@ func (s *Stripe) renewAll(views []view) api.Errno {
 	}
 	gens := generations(views)
 	for _, gen := range gens {
-		s.log.old = append(s.log.old, logName(gen))
+		if gen != s.log.gen {
+			s.log.old = append(s.log.old, logName(gen))
+		}
 	}
 	if err := s.renew(gens[0] + 1); err != api.OK {
 		return err
@@ -147,16 +149,10 @@ func tidy(v api.Volume, needed []string) api.Errno {
 		return err
 	}
 	var strays []string
-	there := 0
 	for _, name := range names {
-		if _, is := slices.BinarySearch(needed, name); is {
-			there++
-		} else if isOurs(name) {
+		if _, is := slices.BinarySearch(needed, name); !is && isOurs(name) {
 			strays = append(strays, name)
 		}
-	}
-	if there != len(needed) {
-		return api.ErrIO
 	}
 	return discard(v, strays)
 }

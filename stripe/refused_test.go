@@ -68,6 +68,9 @@ func TestRefusedWith(t *testing.T) {
 			t.Errorf("%s: ReadAt: %d %v, not %v", c.what, n, e, c.read)
 		}
 		is(t, c.what+": Append", s.Append("b", rising(10)), c.write)
+		if n, e := s.Size("b"); e != api.OK || n != 90 && (n != 100 || c.write != api.ErrTwo) {
+			t.Errorf("%s: Size: %d %v", c.what, n, e)
+		}
 		if s.Out() != -1 {
 			t.Errorf("%s: out %d", c.what, s.Out())
 		}
@@ -266,4 +269,31 @@ func TestReplaceSyncs(t *testing.T) {
 		d.Restart(0)
 	}
 	tells(t, opened(t, -1, l...), rising(40))
+}
+
+// A member has written all of what it has refused, and can't be asked: should it be told some day, it belongs to the contents (P5.6, P5.7).
+func TestRefusedYetWritten(t *testing.T) {
+	for _, ask := range []bool{false, true} {
+		s, l := two(t)
+		torn := l[1].Ops() + 2
+		l[1].Plan(api.Fault{Op: torn, Kind: api.FaultTorn, N: 1 << 20})
+		if !ask {
+			l[1].Plan(api.Fault{Op: torn + 1, Kind: api.FaultDown})
+		}
+		l[2].Plan(api.Fault{Op: l[2].Ops() + 2, Kind: api.FaultWrite})
+		is(t, "Append", s.Append("a", rising(7)), api.ErrTwo)
+		size, _ := s.Size("a")
+		if size != 97 {
+			t.Errorf("Size: %d", size)
+		}
+		l[1].Mend()
+		b := make([]byte, 100)
+		if n, e := s.ReadAt("a", 0, b); e != api.OK || n != 97 || string(b[90:97]) != string(rising(7)) {
+			t.Errorf("ReadAt: %d %v", n, e)
+		}
+		again := opened(t, -1, l...)
+		if n, e := again.Size("a"); e != api.OK || n > size {
+			t.Errorf("Size: %d %v, it was %d", n, e, size)
+		}
+	}
 }

@@ -78,7 +78,7 @@ func (s *Stripe) bring(f *file, member int, v api.Volume) api.Errno {
 	if err := v.Create(f.name()); err != api.OK {
 		return err
 	}
-	switch err, missing := s.pour(f, member, v, f.name(), 0); {
+	switch err, missing := s.pour(f, member, v, f.name()); {
 	case missing != nil:
 		return s.verdict()
 	case err != api.OK:

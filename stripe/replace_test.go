@@ -2,6 +2,7 @@ package stripe_test
 
 import (
 	"slices"
+	"strings"
 	"testing"
 
 	"sluice/api"
@@ -191,6 +192,169 @@ func TestReplaceWhileAnotherFails(t *testing.T) {
 				w.strict = true
 				w.reopened(s, w.sure, true)
 			}
+		}
+	}
+}
+
+// replaced gives a laden world behind a Replace of member 1, and copies of the old disks.
+func replaced(t *testing.T, n int) (w, old *world) {
+	t.Helper()
+	w = laden(t, n, -1)
+	w.syncDir()
+	old = w.twin()
+	v := newRig(t, 1<<20)
+	if e := w.s.Replace(1, v); e != api.OK {
+		w.fail("Replace: %v", e)
+	}
+	w.rigs[1] = v
+	for _, f := range w.now {
+		f.synced = len(f.data)
+	}
+	return w, old
+}
+
+// newestLog names the newest log of a disk.
+func newestLog(r *rig) string {
+	newest := ""
+	for _, f := range r.Stats() {
+		if strings.HasPrefix(f.Name, "log-") {
+			newest = f.Name
+		}
+	}
+	return newest
+}
+
+// Behind a Replace one of the others has lost its newest log, or tells what it was before; Opens are broken off. The new one stays in its place (P5.12).
+func TestReplaceThenOneIsBad(t *testing.T) {
+	for n := 3; n < 5; n++ {
+		for _, further := range []bool{false, true} {
+			state, old := replaced(t, n)
+			if further {
+				state.append("a", state.some(50))
+				state.sync("a")
+				state.create("new")
+				state.syncDir()
+			}
+			for bad := range n {
+				if bad == 1 {
+					continue
+				}
+				for k := 0; ; k++ {
+					w := state.twin()
+					w.rigs[bad].Flip(newestLog(w.rigs[bad]), int64(k)%800)
+					made := w.breakAt(k)
+					w.open(bad, true)
+					if made <= k {
+						break
+					}
+				}
+				w := state.twin()
+				w.rigs[bad] = old.twin().rigs[bad]
+				s, e := stripe.Open(w.volumes()...)
+				if e != api.OK || further && s.Out() != -1 && s.Out() != bad {
+					w.fail("one that tells what it was: %v", e)
+				}
+				w.reopened(s, w.sure, true)
+			}
+		}
+	}
+}
+
+// Behind Replaces the power of one member goes in the midst of an Open: when all have it again all is there, and nobody is out.
+func TestReplaceThenPower(t *testing.T) {
+	for n := 3; n < 5; n++ {
+		for _, twice := range []bool{false, true} {
+			state, _ := replaced(t, n)
+			if twice {
+				v := newRig(t, 1<<20)
+				if e := state.s.Replace(2, v); e != api.OK {
+					t.Fatal(e)
+				}
+				state.rigs[2] = v
+			}
+			state.append("b", state.some(20))
+			for dark := range n {
+				for m := range n {
+					for k := 0; ; k++ {
+						w := state.twin()
+						w.strict = false
+						r := w.rigs[m]
+						struck := false
+						r.wait, r.blink = k, func() { struck = true; off(r.Disk) }
+						if dark != m {
+							off(w.rigs[dark].Disk)
+						}
+						w.open(-1, false)
+						if !struck {
+							break
+						}
+						for i, r := range w.rigs {
+							r.wait, r.blink = -1, nil
+							w.keep(r, (i+k)%3)
+						}
+						w.open(-1, true)
+					}
+				}
+			}
+		}
+	}
+}
+
+// The new volume's power goes and comes while it is filled, unseen: if that is answered OK, each other one may be bad.
+func TestReplaceByOneThatBlinks(t *testing.T) {
+	for k := 0; ; k++ {
+		w := laden(t, 3, -1)
+		v := newRig(t, 1<<20)
+		struck := false
+		v.wait, v.blink = k, func() { struck = true; w.keep(v, k%3) }
+		e := w.s.Replace(1, v)
+		if !struck {
+			break
+		}
+		if e != api.OK {
+			continue
+		}
+		w.rigs[1] = v
+		for bad := range 3 {
+			one := w.twin()
+			one.rigs[bad] = newRig(t, 1<<20)
+			s, e := stripe.Open(one.volumes()...)
+			if e != api.OK {
+				one.fail("at %d: %v", k, e)
+			}
+			one.reopened(s, one.sure, true)
+		}
+	}
+}
+
+// A Replace fails since another member's power goes, at any operation; the stripe goes on without that one. With it, and without one that went on, nothing is told, or all.
+func TestReplaceGivenUp(t *testing.T) {
+	for n := 3; n < 5; n++ {
+		for k := 0; ; k++ {
+			w := laden(t, n, -1)
+			r := w.rigs[0]
+			r.wait, r.fault = k, api.Fault{Kind: api.FaultOff}
+			e := w.s.Replace(1, newRig(t, 1<<20))
+			if r.wait >= 0 {
+				break
+			}
+			if e == api.OK {
+				continue
+			}
+			w.create("new")
+			w.append("new", w.some(50))
+			w.life2()
+			for i, r := range w.rigs {
+				w.keep(r, (i+k)%3)
+			}
+			for other := range n {
+				one := w.twin()
+				one.strict = false
+				one.rigs[other].wait, one.rigs[other].fault = 0, api.Fault{Kind: api.FaultOff}
+				one.open(other, other == 0)
+			}
+			w.open(-1, true)
+			w.life2()
 		}
 	}
 }

@@ -327,3 +327,75 @@ func TestLongLife(t *testing.T) {
 	w.comesAgain(-1, 2)
 	w.life2()
 }
+
+// longLived gives a stripe whose log is about to be begun anew, with bytes that are not durable.
+func longLived(t *testing.T) *world {
+	t.Helper()
+	w := newWorld(t, dice(8), 3, 16)
+	size := func() int64 { return w.rigs[0].Stats()[0].Size } // there is no other file than its log
+	enough := 4*size() + 1<<16
+	long := [...]string{strings.Repeat("a", 48), strings.Repeat("b", 48)}
+	w.create(long[0])
+	for i := 0; size() <= enough; i++ {
+		w.rename(long[i%2], long[1-i%2])
+		w.syncDir()
+	}
+	w.moments, w.sure = w.moments[len(w.moments)-1:], 0
+	w.create("x")
+	w.append("x", w.some(70))
+	return w
+}
+
+// logs tells the logs of a disk.
+func logs(r *rig) (names []string) {
+	for _, f := range r.Stats() {
+		if strings.HasPrefix(f.Name, "log-") {
+			names = append(names, f.Name)
+		}
+	}
+	return names
+}
+
+func TestLogBegunAnew(t *testing.T) {
+	for k := 0; ; k++ { // the power of one member or another goes on the way
+		w := longLived(t)
+		r := w.rigs[k%3]
+		r.wait, r.fault = k/3, api.Fault{Kind: api.FaultOff}
+		w.syncDir()
+		for _, r := range w.rigs {
+			if l := logs(r); r.Lit() && (len(l) != 1 || l[0] == "log-00000001") {
+				w.fail("logs: %v", l)
+			}
+		}
+		if r.wait >= 0 {
+			break
+		}
+		w.create("y")
+		w.append("y", w.some(9))
+		w.sync("y")
+		w.syncDir()
+		for _, r := range w.rigs {
+			w.keep(r, 0)
+		}
+		for other := range 3 {
+			one := w.twin()
+			one.strict = false
+			one.rigs[other].wait, one.rigs[other].fault = 0, api.Fault{Kind: api.FaultOff}
+			one.open(other, w.rigs[other] == r)
+		}
+		w.open(-1, true)
+	}
+}
+
+// Two members fail while a log is begun anew: nothing that would have to stand in it is answered OK any more.
+func TestLogNotBegunAnew(t *testing.T) {
+	w := longLived(t)
+	for _, r := range w.rigs[1:] {
+		r.wait, r.fault = 3, api.Fault{Kind: api.FaultSync}
+	}
+	is(t, "SyncDir", w.s.SyncDir(), api.ErrTwo)
+	is(t, "SyncDir", w.s.SyncDir(), api.ErrHalf)
+	is(t, "Sync", w.s.Sync("x"), api.ErrTwo)
+	w.moments = append(w.moments, w.now)
+	w.comesAgain(-1, 1)
+}

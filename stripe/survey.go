@@ -105,17 +105,6 @@ func (w view) log(gen uint32) (relic, bool) {
 	return w.logs[i], true
 }
 
-// newest tells the generation of the newest sound log.
-func (w view) newest() uint32 {
-	var newest uint32
-	for _, l := range w.logs {
-		if l.how == sound {
-			newest = max(newest, l.gen)
-		}
-	}
-	return newest
-}
-
 // lacks tells whether a member that can be read never had all of a log. (One that is spoilt was there.)
 func (w view) lacks(gen uint32) bool {
 	i := slices.IndexFunc(w.logs, func(l relic) bool { return l.gen == gen })
