@@ -1,6 +1,7 @@
 package stripe_test
 
 import (
+	"bytes"
 	"testing"
 
 	"sluice/api"
@@ -311,6 +312,50 @@ func TestAnotherFilesPieces(t *testing.T) {
 	}
 }
 
+// shifted is a disk that tells what stands further on in a file.
+type shifted struct {
+	*platter.Disk
+	by int64
+}
+
+func (d *shifted) ReadAt(name string, at int64, into []byte) (int, api.Errno) {
+	if n, e := d.Disk.ReadAt(name, at+d.by, into); e == api.OK && n == len(into) {
+		return n, e
+	}
+	return d.Disk.ReadAt(name, at, into)
+}
+
+// A piece of another row of the file, whole as it is, is wrong too.
+func TestAnotherRowsPieces(t *testing.T) {
+	want := bytes.Repeat(rising(192), 4)
+	for i := range want {
+		want[i] += byte(i / 192)
+	}
+	for m := range 3 {
+		for by := range int64(150) {
+			l := disks(t, 3)
+			members := volumes(l...)
+			liar := &shifted{Disk: l[m]}
+			members[m] = liar
+			s, _ := stripe.Format(16, members...)
+			s.Create("x")
+			s.Append("x", want)
+			s.Sync("x")
+			s.SyncDir()
+			liar.by = by
+			for at := range 30 {
+				b := make([]byte, 20)
+				if n, e := s.ReadAt("x", int64(20*at), b); e != api.OK || n != 20 || !bytes.Equal(b, want[20*at:][:20]) {
+					t.Fatalf("member %d, %d bytes further on: %v", m, by, e)
+				}
+			}
+			if found, _ := s.Scrub(); found.Lost != 0 || by == 0 && found.Weak != 0 {
+				t.Errorf("member %d, %d bytes further on: %+v", m, by, found)
+			}
+		}
+	}
+}
+
 // bottomless is a disk whose logs have no end.
 type bottomless struct{ *platter.Disk }
 
@@ -358,6 +403,23 @@ func TestLostIsTold(t *testing.T) {
 			t.Fatalf("%s: %v", what, e)
 		}
 		tells(t, again, rising(40))
+	}
+}
+
+// One member lacks what was synced without it, and another one that has it is gone: the third can't make up for both.
+func TestBehindAndGone(t *testing.T) {
+	for gone := range 2 {
+		s, l := formatted(t, 3, 16)
+		is(t, "Sync", s.Sync("x"), api.OK)
+		is(t, "SyncDir", s.SyncDir(), api.OK)
+		down(l[2])
+		is(t, "Append", s.Append("x", rising(7)), api.OK)
+		is(t, "Sync", s.Sync("x"), api.OK)
+		l[2].Mend()
+		members := volumes(l...)
+		members[gone] = disks(t, 1)[0]
+		refuses(t, "one behind and an empty one", api.ErrTwo, members...)
+		tells(t, opened(t, -1, l...), append(rising(40), rising(7)...))
 	}
 }
 

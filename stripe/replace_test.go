@@ -358,3 +358,20 @@ func TestReplaceGivenUp(t *testing.T) {
 		}
 	}
 }
+
+// However often members are replaced, those that stay do not fill up with what that has left (P5.10).
+func TestReplaceOftenLeavesNothing(t *testing.T) {
+	s, l := formatted(t, 3, 16)
+	for i := range 2 * 70 {
+		d := disks(t, 1)[0]
+		is(t, "Replace", s.Replace(i%2, d), api.OK)
+		l[i%2] = d
+		for m, d := range l {
+			if _, files := d.Used(); files > 1+64 {
+				t.Fatalf("member %d has %d files behind %d Replaces", m, files, i+1)
+			}
+		}
+	}
+	is(t, "SyncDir", s.SyncDir(), api.OK)
+	tells(t, opened(t, -1, l...), rising(40))
+}
