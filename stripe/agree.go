@@ -12,7 +12,6 @@ type accord struct {
 	gen     uint32
 	chart   chart // with the changes that all but one tell
 	holders [api.MaxMembers]bool
-	settled bool // the log holds whoever lacks it
 }
 
 // admit tells who is out, and refuses what are no members of one stripe in their order (P5.2).
@@ -53,7 +52,7 @@ func (s *Stripe) agree(views []view) (accord, api.Errno) {
 			if !ok {
 				continue
 			}
-			if holders := s.holders(views, log); s.enough(holders) && answered(views, log, holders) {
+			if holders := s.holders(views, log); s.enough(holders) && !overruled(views, log, holders) {
 				return s.conclude(views, log, holders)
 			}
 		}
@@ -99,28 +98,23 @@ func (s *Stripe) enough(who [api.MaxMembers]bool) bool {
 	return n >= s.members-1
 }
 
-// settled tells whether a log is not of a Replace, or tells itself that the Replace was answered.
-func settled(views []view, log relic, holders [api.MaxMembers]bool) bool {
-	told := joiningOf(log.chart) < 0
-	for m, seen := range views {
-		if held, _ := seen.log(log.gen); holders[m] {
-			held.each(func(e entry) { told = told || e.kind == recordSettled })
-		}
-	}
-	return told
-}
-
-// answered tells whether a log may be that of a Replace that was answered OK. If one of the members that stayed has never had it, it was broken off.
-func answered(views []view, log relic, holders [api.MaxMembers]bool) bool {
-	if settled(views, log, holders) {
-		return true
+// overruled tells whether a log is of a Replace that has failed: one of the members that stayed has another in its place that is newer and does not know of it.
+func overruled(views []view, log relic, holders [api.MaxMembers]bool) bool {
+	c, ok := readChart(log.chart, log.members)
+	if !ok || c.joining < 0 {
+		return false
 	}
 	for m, seen := range views {
-		if m != joiningOf(log.chart) && !holders[m] && seen.lacks(log.gen) {
-			return false
+		for _, l := range seen.logs {
+			if m == c.joining || holders[m] || l.how != sound || l.gen <= log.gen {
+				continue
+			}
+			if newer, ok := readChart(l.chart, l.members); ok && newer.tenants[c.joining] < c.tenants[c.joining] {
+				return true
+			}
 		}
 	}
-	return true
+	return false
 }
 
 // conclude reads what the holders of a log agree upon. All but one must have had all that was durable. What a single one of them says of who is behind counts: it may be the only one left that has heard of it.
@@ -142,7 +136,7 @@ func (s *Stripe) conclude(views []view, log relic, holders [api.MaxMembers]bool)
 	if !ok || !ended || !s.enough(sure) {
 		return accord{}, api.ErrTwo
 	}
-	return accord{log.gen, c, holders, settled(views, log, holders)}, api.OK
+	return accord{log.gen, c, holders}, api.OK
 }
 
 // longest gives the most records that all members but one tell alike. What fewer tell was never answered.

@@ -10,6 +10,7 @@ import (
 // chart is who the members are, and the directory, at the beginning of a log.
 type chart struct {
 	joining int                    // the member whose place a Replace gives away by this log; -1: it is of no Replace
+	out     int                    // the member on which the log was not begun; -1: none. Two that were begun while each time another one was gone are not the same, whatever else they tell
 	tenants [api.MaxMembers]uint32 // how manieth volume each member is in its place
 	names   map[string]uint64      // the files' numbers
 	synced  map[uint64]uint32      // how many rows of each are durable, by its number
@@ -17,7 +18,7 @@ type chart struct {
 
 // lay gives its bytes: the same for the same chart.
 func (c chart) lay(members int) []byte {
-	b := number(nil, 1, uint64(c.joining+1))
+	b := number(number(nil, 1, uint64(c.joining+1)), 1, uint64(c.out+1))
 	for m := range members {
 		b = number(b, 4, uint64(c.tenants[m]))
 	}
@@ -29,16 +30,10 @@ func (c chart) lay(members int) []byte {
 	return b
 }
 
-// joiningOf tells, of a chart's bytes, the member whose place a Replace gives away; -1: none.
-func joiningOf(b []byte) int {
-	s := scroll{rest: b}
-	return int(s.number(1)) - 1
-}
-
 // readChart reads what lay gives.
 func readChart(b []byte, members int) (chart, bool) {
 	s := scroll{rest: b}
-	c := chart{joining: int(s.number(1)) - 1, names: map[string]uint64{}, synced: map[uint64]uint32{}}
+	c := chart{joining: int(s.number(1)) - 1, out: int(s.number(1)) - 1, names: map[string]uint64{}, synced: map[uint64]uint32{}}
 	for m := range members {
 		c.tenants[m] = uint32(s.number(4))
 	}
@@ -49,7 +44,7 @@ func readChart(b []byte, members int) (chart, bool) {
 			break
 		}
 	}
-	return c, !s.bad && len(s.rest) == 0
+	return c, !s.bad && len(s.rest) == 0 && c.joining < members && c.out < members
 }
 
 // apply takes in a record; false, if there is no such record.

@@ -1,6 +1,8 @@
 package stripe
 
 import (
+	"slices"
+
 	"sluice/api"
 	"sluice/grain"
 )
@@ -22,7 +24,6 @@ const (
 	recordChanges // of the directory
 	recordSynced  // so many rows of a file are durable
 	recordOut     // a member is left out: it lacks what comes from now on
-	recordSettled // the Replace that has begun this log has been answered
 )
 
 // ledger is what a stripe knows of the log that it writes.
@@ -34,7 +35,6 @@ type ledger struct {
 	tenants [api.MaxMembers]uint32
 	changes []byte   // of the directory, that no record tells yet
 	noted   bool     // the log tells who is out
-	settled bool     // and whatever else it must tell
 	stuck   bool     // members may differ in it: it takes no more
 	old     []string // logs that members have beside it
 }
@@ -95,12 +95,17 @@ type book struct {
 	bytes []byte // the chart's
 }
 
-// newBook gives the beginning of a log of the directory as it is now.
-func (s *Stripe) newBook(gen uint32, tenants [api.MaxMembers]uint32, joining int) book {
-	c := chart{joining: joining, tenants: tenants, names: map[string]uint64{}, synced: map[uint64]uint32{}}
+// newChart tells who the members are, and the directory, as they are now.
+func (s *Stripe) newChart() chart {
+	c := chart{joining: -1, out: s.out, tenants: s.log.tenants, names: map[string]uint64{}, synced: map[uint64]uint32{}}
 	for name, f := range s.files {
 		c.names[name], c.synced[f.id] = f.id, f.held
 	}
+	return c
+}
+
+// newBook gives the beginning of a log.
+func (s *Stripe) newBook(gen uint32, c chart) book {
 	return book{s.layout, gen, c, c.lay(s.members)}
 }
 
@@ -114,28 +119,26 @@ func (b book) lay(m int) []byte {
 	return record(log, b.gen, 1, entry{recordChart, b.bytes})
 }
 
-// start begins a log on a member, durable. The last thing that is done is what makes it whole.
-func (b book) start(v api.Volume, m int) api.Errno {
-	name := logName(b.gen)
+// begin begins a log on a member, durable, in a file of this name, and asks whether it is there. The last thing that is written is what makes it whole.
+func (b book) begin(v api.Volume, m int, name string) api.Errno {
 	if err := v.Create(name); err != api.OK {
 		return err
 	}
 	if err := v.SyncDir(); err != api.OK {
 		return err
 	}
-	if err := v.Append(name, b.lay(m)); err != api.OK {
+	laid := b.lay(m)
+	if err := v.Append(name, laid); err != api.OK {
 		return err
 	}
-	return v.Sync(name)
+	if err := v.Sync(name); err != api.OK {
+		return err
+	}
+	return holds(v, name, int64(len(laid)))
 }
 
-// place begins a log on a member, and asks whether it is there.
-func (b book) place(v api.Volume, m int) api.Errno {
-	if err := b.start(v, m); err != api.OK {
-		return err
-	}
-	return holds(v, logName(b.gen), int64(len(b.lay(m))))
-}
+// place begins a log on a member.
+func (b book) place(v api.Volume, m int) api.Errno { return b.begin(v, m, logName(b.gen)) }
 
 // takeUp goes on with a log that the members have.
 func (s *Stripe) takeUp(b book, old ...string) {
@@ -143,7 +146,7 @@ func (s *Stripe) takeUp(b book, old ...string) {
 		f.synced = f.held
 	}
 	size := int64(len(b.lay(0))) // all members' titles are of one length
-	s.log = ledger{gen: b.gen, seq: firstEntry, size: size, base: size, tenants: b.chart.tenants, noted: true, settled: b.chart.joining < 0, old: old}
+	s.log = ledger{gen: b.gen, seq: firstEntry, size: size, base: size, tenants: b.chart.tenants, noted: true, old: old}
 }
 
 // renew begins a log of the directory as it is now on all members that are in. One that fails while it is begun is out, and that is to stand in the log: so another one is begun.
@@ -151,7 +154,7 @@ func (s *Stripe) renew(gen uint32) api.Errno {
 	s.log.stuck = true // as long as some members may have the one, some the other
 	old := append(s.log.old, logName(s.log.gen))
 	for {
-		out, b := s.out, s.newBook(gen, s.log.tenants, -1)
+		out, b := s.out, s.newBook(gen, s.newChart())
 		if err := s.each(func(m int) api.Errno { return b.place(s.volumes[m], m) }); err != api.OK {
 			return err
 		}
@@ -172,10 +175,10 @@ func (s *Stripe) tell(entries ...entry) api.Errno {
 	return s.enter(entries...)
 }
 
-// enter puts records, and whatever the log must tell beside them, behind each member's log, durable; and takes the logs before it off them, for of two that are there the older one may not come to hold again. That a member has failed in this is to be told too: so it goes on till all that are in hold all.
+// enter puts records, and whatever the log must tell beside them, behind each member's log, durable; and takes the logs before it off them, for of two that are there the older one may not come to hold again. That a member has failed in this is to be told too: so it goes on till all that are in hold all. Who is out stands ahead of what that one lacks: nobody may have heard of the one without the other.
 func (s *Stripe) enter(entries ...entry) api.Errno {
 	for {
-		entries = append(entries, s.notes()...)
+		entries = append(s.notes(), entries...)
 		if len(entries) == 0 && len(s.log.old) == 0 {
 			return api.OK
 		}
@@ -207,7 +210,7 @@ func (s *Stripe) put(entries []entry) func(m int) api.Errno {
 	}
 	name, size := logName(s.log.gen), s.log.size
 	s.log.size += int64(len(laid))
-	s.log.noted, s.log.settled = true, true
+	s.log.noted = true
 	return func(m int) api.Errno {
 		v := s.volumes[m]
 		if err := holds(v, name, size); err != api.OK {
@@ -223,21 +226,17 @@ func (s *Stripe) put(entries []entry) func(m int) api.Errno {
 	}
 }
 
-// drop counts the logs before this one as gone, and tells how that is done to a member.
+// drop counts the logs before this one as gone, and tells how that is done to a member. The oldest go first: if the power goes on the way, none may be left that is older than one that is gone.
 func (s *Stripe) drop() func(m int) api.Errno {
-	old := s.log.old
+	old := slices.Sorted(slices.Values(s.log.old))
 	s.log.old = nil
 	return func(m int) api.Errno { return discard(s.volumes[m], old) }
 }
 
 // notes gives what the log must tell ahead of an answer that rests on it.
 func (s *Stripe) notes() []entry {
-	var list []entry
-	if !s.log.settled {
-		list = append(list, entry{kind: recordSettled})
+	if s.out < 0 || s.log.noted {
+		return nil
 	}
-	if s.out >= 0 && !s.log.noted {
-		list = append(list, entry{recordOut, number(nil, 1, uint64(s.out))})
-	}
-	return list
+	return []entry{{recordOut, number(nil, 1, uint64(s.out))}}
 }

@@ -37,15 +37,18 @@ func Open(members ...api.Volume) (*Stripe, api.Errno) {
 	return s, api.OK
 }
 
-// adopt takes the directory as it was agreed upon. A volume that a Replace has brought, and that the others do not know, is out.
+// adopt takes the directory as it was agreed upon. A volume that a Replace has brought, and that the others do not know, is out. One whose place a Replace was to give away has it again.
 func (s *Stripe) adopt(agreed accord, views []view) {
-	s.log = ledger{gen: agreed.gen, tenants: agreed.chart.tenants, noted: true, settled: true}
+	s.log = ledger{gen: agreed.gen, tenants: agreed.chart.tenants, noted: true}
 	for name, id := range agreed.chart.names {
 		s.files[name] = &file{id: id, synced: agreed.chart.synced[id]}
 	}
 	for m, seen := range views {
-		if seen.tenant() > agreed.chart.tenants[m] {
+		switch told := agreed.chart.tenants[m]; {
+		case seen.tenant() > told:
 			s.out = m
+		case seen.whole():
+			s.log.tenants[m] = seen.tenant()
 		}
 	}
 }
@@ -87,7 +90,7 @@ func (s *Stripe) sweep(agreed accord, views []view) api.Errno {
 		}
 		for _, name := range views[m].names {
 			gen, isLog := genOf(name)
-			if isLog && agreed.needs(gen, views) || !isLog && !strings.HasPrefix(name, freshPrefix) {
+			if isLog && agreed.needs(gen, m, views) || !isLog && !strings.HasPrefix(name, freshPrefix) {
 				continue
 			}
 			if err := v.Remove(name); err != api.OK && err != api.ErrNoFile {
@@ -98,23 +101,23 @@ func (s *Stripe) sweep(agreed accord, views []view) api.Errno {
 	})
 }
 
-// needs tells whether a log stays on the members till there is a newer one: the one that was agreed upon; those before it that one who lacks it has, for others may have to agree with that one some day; and as long as it matters who has had a Replace's log, all before it.
-func (a accord) needs(gen uint32, views []view) bool {
+// needs tells whether a log stays on a member till there is a newer one: the one that was agreed upon; if the member lacks that, its own newest, without which nothing of a stripe would lie there; and those before it that such a member has, for others may have to agree with that one some day. (They have not, if it is a bad one, whose logs can't all be read: and of two the older one alone may not be left.)
+func (a accord) needs(gen uint32, m int, views []view) bool {
 	switch {
 	case gen > a.gen:
-		return false
-	case gen == a.gen || !a.settled:
+		return !a.holders[m] && gen == views[m].newest()
+	case gen == a.gen:
 		return true
 	}
 	for o, other := range views {
-		if _, has := other.log(gen); has && !a.holders[o] {
+		if _, has := other.log(gen); has && !a.holders[o] && other.legible() {
 			return true
 		}
 	}
 	return false
 }
 
-// renewAll begins the log of this Open, and takes off the members whatever else of the stripe lies there. The logs before it go all at one time: of two of them the older one may not be left.
+// renewAll begins the log of this Open, and takes off the members whatever else of the stripe lies there.
 func (s *Stripe) renewAll(views []view) api.Errno {
 	for _, f := range s.files {
 		f.held = f.rows

@@ -119,17 +119,21 @@ func (s *Stripe) settleAll() api.Errno {
 	return s.enter() // ahead of one log that may not hold there is to be one that does
 }
 
-// join begins a log in which the new volume has its place: first on itself, then on all others. Till all of these have it, the one before holds. That all have it stands in it as soon as anything else is answered.
+// join begins a log in which the new volume has its place, on that one under a name that is no log's, and on all others. Till all of these have it, the one before holds. The name is the last thing that is written: a volume without it was never a member.
 func (s *Stripe) join(member int, v api.Volume) api.Errno {
-	tenants := s.log.tenants
-	tenants[member]++
-	b := s.newBook(s.log.gen+1, tenants, member)
-	if err := b.place(v, member); err != api.OK {
+	c := s.newChart()
+	c.joining, c.out = member, -1
+	c.tenants[member]++
+	b := s.newBook(s.log.gen+1, c)
+	if err := b.begin(v, member, freshName(uint64(b.gen))); err != api.OK {
 		return err
 	}
-	err := s.others(member, b.start)
+	err := s.others(member, b.place)
 	if err == api.OK {
-		err = s.others(member, b.stands)
+		err = b.seat(v)
+	}
+	if err == api.OK {
+		err = s.stands(b, member, v)
 	}
 	if err != api.OK {
 		// Some members may have this log: one that is newer overrules it.
@@ -139,6 +143,35 @@ func (s *Stripe) join(member int, v api.Volume) api.Errno {
 	}
 	s.volumes[member], s.out = v, -1
 	s.takeUp(b, append(s.log.old, logName(s.log.gen))...)
+	return api.OK
+}
+
+// seat gives the new volume's log its name, durable.
+func (b book) seat(v api.Volume) api.Errno {
+	if err := v.Rename(freshName(uint64(b.gen)), logName(b.gen)); err != api.OK {
+		return err
+	}
+	return v.SyncDir()
+}
+
+// stands asks whether the new volume's log has its name: had the power gone in between, it would not. If neither the volume nor anybody else can be asked, it has its place, as far as it has told: there is none left who could hear that it has failed.
+func (s *Stripe) stands(b book, member int, v api.Volume) api.Errno {
+	name := logName(b.gen)
+	size, failed := v.Size(name)
+	switch {
+	case failed == api.OK && size == int64(len(b.lay(member))):
+		return api.OK
+	case failed == api.OK, failed == api.ErrNoFile:
+		return api.ErrIO
+	}
+	for m := range s.members {
+		if m == member {
+			continue
+		}
+		if _, err := s.volumes[m].Size(name); err == api.OK {
+			return failed
+		}
+	}
 	return api.OK
 }
 
@@ -154,13 +187,4 @@ func (s *Stripe) others(member int, do func(v api.Volume, m int) api.Errno) api.
 		err = s.verdict()
 	}
 	return err
-}
-
-// stands refuses a member that has lost its log. One that can't be asked has it, as far as it has told.
-func (b book) stands(v api.Volume, m int) api.Errno {
-	size, err := v.Size(logName(b.gen))
-	if err == api.ErrNoFile || err == api.OK && size != int64(len(b.lay(m))) {
-		return api.ErrIO
-	}
-	return api.OK
 }

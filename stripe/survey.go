@@ -105,10 +105,20 @@ func (w view) log(gen uint32) (relic, bool) {
 	return w.logs[i], true
 }
 
-// lacks tells whether a member that can be read never had all of a log. (One that is spoilt was there.)
-func (w view) lacks(gen uint32) bool {
-	i := slices.IndexFunc(w.logs, func(l relic) bool { return l.gen == gen })
-	return w.whole() && (i < 0 || w.logs[i].how == cut)
+// newest tells the generation of the newest log that is sound; 0: there is none.
+func (w view) newest() uint32 {
+	var most uint32
+	for _, l := range w.logs {
+		if l.how == sound {
+			most = max(most, l.gen)
+		}
+	}
+	return most
+}
+
+// legible tells whether all logs can be read, as far as they go.
+func (w view) legible() bool {
+	return !slices.ContainsFunc(w.logs, func(l relic) bool { return l.how == spoilt })
 }
 
 // tenant tells how manieth volume of its place it is.
