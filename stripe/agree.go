@@ -76,13 +76,12 @@ func generations(views []view) []uint32 {
 	return gens
 }
 
-// holders tells which members have a log with this chart, and none that is newer and can't be read: that one may be what holds.
+// holders tells which members have a log with this chart.
 func (s *Stripe) holders(views []view, log relic) [api.MaxMembers]bool {
 	var all [api.MaxMembers]bool
 	for m, seen := range views {
 		other, ok := seen.log(log.gen)
-		newer := slices.ContainsFunc(seen.logs, func(l relic) bool { return l.gen > log.gen && l.how == spoilt })
-		all[m] = ok && !newer && bytes.Equal(other.chart, log.chart)
+		all[m] = ok && !seen.veiled(log.gen) && bytes.Equal(other.chart, log.chart)
 	}
 	return all
 }

@@ -91,7 +91,10 @@ func TestOpensBrokenOffBehindReplace(t *testing.T) {
 					w.rigs[m].wait, w.rigs[m].fault = w.rng.IntN([]int{6, 30}[w.rng.IntN(2)]), api.Fault{Kind: api.FaultOff}
 				}
 				w.open(-1, false)
-				w.again(w.rng.IntN(3))
+				for _, r := range w.rigs {
+					r.wait = -1
+					r.Restart(w.rng.IntN(3)) // so many changes of the directory stay
+				}
 			}
 			w.open(-1, true)
 		}
@@ -180,6 +183,35 @@ func TestReplaceAndOpensBrokenOff(t *testing.T) {
 					break
 				}
 				second.opensWithoutOne()
+			}
+		}
+	}
+}
+
+// A log has turned bits; a Replace of another member begins a new one, and a new spell. Then the old volume is handed to Open in the place of the new one, and Opens are broken off: that is the only bad one, and what stays of the log with turned bits is nothing to anybody (P5.7).
+func TestTurnedLogBehindReplace(t *testing.T) {
+	for n := 3; n < 5; n++ {
+		for turned := 1; turned < n; turned++ {
+			state, v := laden(t, n, -1), newRig(t, 1<<20)
+			state.syncDir()
+			state.rigs[turned].Flip(newestLog(state.rigs[turned]), 99)
+			if e := state.s.Replace(0, v); e != api.OK {
+				t.Fatal(e)
+			}
+			state.strict = false
+			for j := turned; ; j += 3 {
+				first := state.twin()
+				if first.breakAt(j); first.s != state.s {
+					break
+				}
+				for i := j % 9; ; i += 9 {
+					second := first.twin()
+					if second.breakAt(i); second.s != state.s {
+						break
+					}
+					second.twin().open(0, true)
+					second.with(v).open(0, true)
+				}
 			}
 		}
 	}

@@ -3,9 +3,11 @@ package stripe_test
 import (
 	"math"
 	"math/rand/v2"
+	"strconv"
 	"testing"
 
 	"sluice/api"
+	"sluice/grain"
 	"sluice/stripe"
 )
 
@@ -141,5 +143,47 @@ func TestLiar(t *testing.T) {
 			}
 		}
 		w.readAll()
+	}
+}
+
+// forged gives a log whose sums are right, but whose chart says of a Replace what can't be.
+func forged(gen uint32, member int, joining, out byte) []byte {
+	number := func(b []byte, width int, v uint32) []byte {
+		b = append(b, make([]byte, width)...)
+		grain.Put(b, len(b)-width, width, uint64(v))
+		return b
+	}
+	record := func(log []byte, kind byte, seq uint32, body []byte) []byte {
+		head := number(number([]byte{kind}, 4, seq), 4, uint32(len(body)))
+		sum := grain.More(gen, head)
+		log = append(number(append(log, head...), 4, sum), body...)
+		return number(log, 4, grain.More(sum, body))
+	}
+	chart := []byte{joining, out}
+	for range 3 {
+		chart = number(chart, 4, 2)
+	}
+	log := record(nil, 1, 0, number(number([]byte{3, byte(member)}, 4, 16), 4, 1))
+	return record(log, 2, 1, number(chart, 4, 0))
+}
+
+// Whatever lies on members, Open answers.
+func TestForgedLogs(t *testing.T) {
+	for joining := range 256 {
+		var l []api.Volume
+		for m, gen := range []uint32{5, 5, 6} {
+			d := disks(t, 1)[0]
+			name := "log-0000000" + strconv.Itoa(int(gen))
+			d.Create(name)
+			d.Append(name, forged(gen, m, byte(joining), byte(joining/2)))
+			l = append(l, d)
+		}
+		s, e := stripe.Open(l...)
+		if joining == 0 && (e != api.OK || s.Out() != -1) {
+			t.Fatalf("a log that is none of a Replace: %v", e)
+		}
+		if joining > 3 && e != api.ErrTwo {
+			t.Fatalf("a Replace of member %d: %v", joining-1, e)
+		}
 	}
 }

@@ -101,16 +101,16 @@ func (s *Stripe) sweep(agreed accord, views []view) api.Errno {
 	})
 }
 
-// needs tells whether a log stays on a member till there is a newer one: the one that was agreed upon; if the member lacks that, its own newest, without which nothing of a stripe would lie there; and those before it that such a member has, for others may have to agree with that one some day. (They have not, if it is a bad one, whose logs can't all be read: and of two the older one alone may not be left.)
+// needs tells whether a log stays on a member till there is a newer one: the one that was agreed upon; if the member lacks that, its own newest, without which nothing of a stripe would lie there; and those before it that such a member has, for others may have to agree with that one some day. (Of two of them the older one alone may not be left.)
 func (a accord) needs(gen uint32, m int, views []view) bool {
 	switch {
-	case gen > a.gen:
-		return !a.holders[m] && gen == views[m].newest()
-	case gen == a.gen:
+	case gen == a.gen, !a.holders[m] && gen == views[m].newest():
 		return true
+	case gen > a.gen:
+		return false
 	}
 	for o, other := range views {
-		if _, has := other.log(gen); has && !a.holders[o] && other.legible() {
+		if _, has := other.log(gen); has && !a.holders[o] && !other.veiled(gen) {
 			return true
 		}
 	}

@@ -132,9 +132,6 @@ func (s *Stripe) join(member int, v api.Volume) api.Errno {
 	if err == api.OK {
 		err = b.seat(v)
 	}
-	if err == api.OK {
-		err = s.stands(b, member, v)
-	}
 	if err != api.OK {
 		// Some members may have this log: one that is newer overrules it.
 		s.log.old = append(s.log.old, logName(b.gen))
@@ -146,33 +143,12 @@ func (s *Stripe) join(member int, v api.Volume) api.Errno {
 	return api.OK
 }
 
-// seat gives the new volume's log its name, durable.
+// seat gives the new volume's log its name, durable. Nothing is asked of the volume behind that: it is a member then, whatever it would answer.
 func (b book) seat(v api.Volume) api.Errno {
 	if err := v.Rename(freshName(uint64(b.gen)), logName(b.gen)); err != api.OK {
 		return err
 	}
 	return v.SyncDir()
-}
-
-// stands asks whether the new volume's log has its name: had the power gone in between, it would not. If neither the volume nor anybody else can be asked, it has its place, as far as it has told: there is none left who could hear that it has failed.
-func (s *Stripe) stands(b book, member int, v api.Volume) api.Errno {
-	name := logName(b.gen)
-	size, failed := v.Size(name)
-	switch {
-	case failed == api.OK && size == int64(len(b.lay(member))):
-		return api.OK
-	case failed == api.OK, failed == api.ErrNoFile:
-		return api.ErrIO
-	}
-	for m := range s.members {
-		if m == member {
-			continue
-		}
-		if _, err := s.volumes[m].Size(name); err == api.OK {
-			return failed
-		}
-	}
-	return api.OK
 }
 
 // others does one thing to every member but the one that is replaced. No other may be out behind it.

@@ -67,16 +67,19 @@ func TestReplaceFails(t *testing.T) {
 				}
 				w.readAll()
 				v.Disk.Mend()
-				w.keep(v, k%2)
-				l := w.copied(v)
-				s, e := stripe.Open(l[0], l[3], l[2])
-				if e != api.OK || s.Out() != 1 {
-					t.Fatalf("kind %d at %d: Open with the new one: %v, out %d", kind, k, e, s.Out())
+				for mode := range 2 {
+					one := &rig{Disk: v.Disk.Copy(), wait: -1}
+					w.keep(one, mode)
+					l := w.copied(one)
+					s, e := stripe.Open(l[0], l[3], l[2])
+					if e != api.OK || s.Out() != 1 {
+						t.Fatalf("kind %d at %d: Open with the new one: %v, out %d", kind, k, e, s.Out())
+					}
 				}
 				w.append("a", w.some(3))
 				w.sync("a")
 				w.syncDir()
-				s, e = stripe.Open(w.copied()...)
+				s, e := stripe.Open(w.copied()...)
 				if e != api.OK {
 					t.Fatalf("kind %d at %d: Open with the old one: %v", kind, k, e)
 				}
@@ -300,22 +303,24 @@ func TestReplaceThenPower(t *testing.T) {
 	}
 }
 
-// The new volume's power goes and comes while it is filled, unseen: if that is answered OK, each other one may be bad.
+// The new volume's power goes and comes while it is filled, unseen: if that is answered OK, each other one may be bad. (But what it answers OK at its very last operation, and does not hold afterwards, is a fault of the spell that begins then.)
 func TestReplaceByOneThatBlinks(t *testing.T) {
-	for k := 0; ; k++ {
-		w := laden(t, 3, -1)
-		v := newRig(t, 1<<20)
-		struck := false
-		v.wait, v.blink = k, func() { struck = true; w.keep(v, k%3) }
-		e := w.s.Replace(1, v)
-		if !struck {
-			break
-		}
-		if e != api.OK {
+	w, v := laden(t, 3, -1), newRig(t, 1<<20)
+	if e := w.s.Replace(1, v); e != api.OK {
+		t.Fatal(e)
+	}
+	last := int(v.Ops()) - 1
+	for k := range last + 1 {
+		w, v := laden(t, 3, -1), newRig(t, 1<<20)
+		v.wait, v.blink = k, func() { w.keep(v, k%3) }
+		if w.s.Replace(1, v) != api.OK {
 			continue
 		}
 		w.rigs[1] = v
 		for bad := range 3 {
+			if k == last && bad != 1 {
+				continue
+			}
 			one := w.twin()
 			one.rigs[bad] = newRig(t, 1<<20)
 			s, e := stripe.Open(one.volumes()...)

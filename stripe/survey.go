@@ -116,9 +116,9 @@ func (w view) newest() uint32 {
 	return most
 }
 
-// legible tells whether all logs can be read, as far as they go.
-func (w view) legible() bool {
-	return !slices.ContainsFunc(w.logs, func(l relic) bool { return l.how == spoilt })
+// veiled tells whether there is a log that is newer and can't be read: that one may be what holds.
+func (w view) veiled(gen uint32) bool {
+	return slices.ContainsFunc(w.logs, func(l relic) bool { return l.gen > gen && l.how == spoilt })
 }
 
 // tenant tells how manieth volume of its place it is.
