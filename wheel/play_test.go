@@ -268,3 +268,45 @@ func TestRunsOnAStripe(t *testing.T) {
 		p.right(s, true)
 	}
 }
+
+// P12.17: the power of all of a stripe's members goes, at about one time; the stripe is opened again, and the run gone on with.
+func TestPowerOnAStripe(t *testing.T) {
+	ends, lives := 0, 0
+	for seed := range uint64(150) {
+		rnd := rand.New(rand.NewPCG(seed, 55))
+		w := anyWorld(rnd, 10)
+		disks := []*platter.Disk{disk(t), disk(t), disk(t)}
+		v, e := stripe.Format(64, disks[0], disks[1], disks[2])
+		if e != api.OK {
+			t.Fatal(e)
+		}
+		p := &play{t: t, rnd: rnd, w: w, v: v, bag: bag(t, 1<<16), what: fmt.Sprintf("stripe %d", seed)}
+		for range 4 {
+			at := 1 + rnd.Int64N(300)
+			for _, d := range disks {
+				d.Plan(api.Fault{Op: d.Ops() + at + rnd.Int64N(3), Kind: api.FaultOff})
+			}
+			s, e := p.life()
+			if lives++; e == api.OK {
+				ends++
+				p.right(s, false)
+			}
+			for i, d := range disks {
+				disks[i] = spent(d)
+				disks[i].Restart(rnd.IntN(12)-1, keeps(rnd)...)
+			}
+			if v, e = stripe.Open(disks[0], disks[1], disks[2]); e != api.OK {
+				t.Fatalf("%s: %d", p.what, e)
+			}
+			p.v = v
+		}
+		s, e := p.life()
+		if e != api.OK {
+			t.Fatalf("P12.17: %s: %d", p.what, e)
+		}
+		p.right(s, true)
+	}
+	if ends < 50 || lives-ends < 200 {
+		t.Errorf("too little was tried: %d of %d lives ended well", ends, lives)
+	}
+}
