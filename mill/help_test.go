@@ -10,6 +10,7 @@ import (
 
 	"sluice/api"
 	"sluice/mill"
+	"sluice/purse"
 	"sluice/quay"
 )
 
@@ -260,3 +261,11 @@ func anyWorld(rnd *rand.Rand, kernel string, most uint32) world {
 
 // kernelAt tells one of the kernels in turn.
 func kernelAt(seed uint64) string { return builtIn[seed%uint64(len(builtIn))] }
+
+// aPurse tells one of its own, for looking at what lies on a disk.
+func aPurse(t testing.TB) *purse.Purse {
+	t.Helper()
+	p, e := purse.New(wealthy)
+	must(t, "a purse", e)
+	return p
+}

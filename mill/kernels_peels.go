@@ -41,13 +41,13 @@ func peelKernels() map[string]kernel {
 }
 
 // ordered makes a program that goes by an order, out of the seed.
-func ordered(make func(r api.Rank) (api.Program, api.Errno)) func(values, api.Graph) (api.Program, api.Errno) {
+func ordered(by func(r api.Rank) (api.Program, api.Errno)) func(values, api.Graph) (api.Program, api.Errno) {
 	return func(v values, g api.Graph) (api.Program, api.Errno) {
 		r, err := peels.RankOf(g.N, v.seed)
 		if err != api.OK {
 			return nil, err
 		}
-		return make(r)
+		return by(r)
 	}
 }
 

@@ -15,16 +15,16 @@ func (m *Mill) Run(job string) (api.Outcome, api.Errno) { return m.perform(job, 
 // Resume goes on with one (P19.5).
 func (m *Mill) Resume(job string) (api.Outcome, api.Errno) { return m.perform(job, wheel.Resume) }
 
-// rounds is how layer 12 makes the rounds of a run: from the beginning, or from where it stands.
-type rounds func(v api.Volume, p *purse.Purse, g api.Graph, prog api.Program, code uint32, o api.Options) (api.Stats, api.Errno)
+// runner is how layer 12 makes the rounds of a run: from the beginning, or from where it stands.
+type runner func(v api.Volume, p *purse.Purse, g api.Graph, prog api.Program, code uint32, o api.Options) (api.Stats, api.Errno)
 
 // perform does a job. What the kernel tells of the whole stands in the run's manifest.
-func (m *Mill) perform(job string, make rounds) (api.Outcome, api.Errno) {
+func (m *Mill) perform(job string, run runner) (api.Outcome, api.Errno) {
 	t, err := m.prepare(job)
 	if err != api.OK {
 		return api.Outcome{}, err
 	}
-	stats, err := make(m.volume, m.purse, t.graph, t.program, t.number(), t.options())
+	stats, err := run(m.volume, m.purse, t.graph, t.program, t.number(), t.options())
 	if err != api.OK {
 		return api.Outcome{}, err
 	}

@@ -74,37 +74,87 @@ func TestOneTruth(t *testing.T) {
 
 // play is a world on a machine that fails, over several lives.
 type play struct {
-	t     *testing.T
-	rnd   *rand.Rand
-	m     *mill.Mill
-	w     world
-	want  told
-	graph []string
-	what  string
-	ends  int
+	t      *testing.T
+	rnd    *rand.Rand
+	m      *mill.Mill
+	w      world
+	want   told
+	stats  api.Stats
+	graph  []string
+	what   string
+	steady bool // a checkpoint behind each round, and nothing else at random
+	loaded bool // a Load has answered OK
+	ends   int
 }
 
 func newPlay(t *testing.T, rnd *rand.Rand, m *mill.Mill, w world, what string) *play {
-	return &play{t: t, rnd: rnd, m: m, w: w, want: w.model(t), graph: anyShape(rnd, w).graph, what: fmt.Sprintf("%s, %+v", what, w)}
+	return &play{t: t, rnd: rnd, m: m, w: w, want: w.model(t), stats: statsOf(t, w), graph: anyShape(rnd, w).graph, what: fmt.Sprintf("%s, %+v", what, w)}
+}
+
+// statsOf tells the statistics of a job that nothing befalls.
+func statsOf(t testing.TB, w world) api.Stats {
+	_, o := done(t, w, w.job())
+	return o.Stats
 }
 
 // life loads the graph, if it is not there, and begins the job or goes on with it.
 func (p *play) life() api.Errno {
 	p.t.Helper()
-	w := p.w.shuffled(p.rnd)
 	defer still(p.t, p.m, p.what)
-	if _, e := w.load(p.t, p.m, p.graph...); e != api.OK && e != api.ErrThere {
+	if e := p.load(); e != api.OK && e != api.ErrThere {
 		return e
 	}
 	job := p.w.job(anyShape(p.rnd, p.w).job...)
+	if p.steady {
+		job = p.w.job("every = 1")
+	}
 	o, e := p.m.Resume(job)
 	if e == api.ErrRun {
 		o, e = p.m.Run(job)
 	}
-	if e == api.OK && o.Tells != p.want.tells {
-		p.t.Fatalf("P19.20: %s: tells %v, want %v", p.what, o.Tells, p.want.tells)
+	if e == api.OK && (o.Tells != p.want.tells || o.Stats != p.stats) {
+		p.t.Fatalf("P19.20: %s: %+v, want %v, %+v", p.what, o, p.want.tells, p.stats)
 	}
 	return e
+}
+
+// load lays the graph down, in any order of its edges.
+func (p *play) load() api.Errno {
+	p.t.Helper()
+	w := p.w
+	if !p.steady {
+		w = w.shuffled(p.rnd)
+	}
+	_, e := w.load(p.t, p.m, p.graph...)
+	p.loaded = p.loaded || e == api.OK
+	return e
+}
+
+// whole is a life to its end: the rows, too.
+func (p *play) whole() api.Errno {
+	p.t.Helper()
+	if e := p.life(); e != api.OK {
+		return e
+	}
+	return p.rows()
+}
+
+// revive gives the power back, and asks whether the graph is there.
+func (p *play) revive() {
+	p.t.Helper()
+	for tries := 0; ; tries++ {
+		e := p.m.Restart(keeps(p.rnd)...)
+		if e == api.OK {
+			break
+		}
+		if tries > 40 {
+			p.t.Fatalf("P19.26: %s: Restart: %d", p.what, e)
+		}
+	}
+	before := p.loaded
+	if e := p.load(); before && e != api.ErrThere && !isDark(p.m) {
+		p.t.Fatalf("P19.26: %s: the graph is gone: %d", p.what, e)
+	}
 }
 
 // rows reads the rows; if they are told to their end, they must be right.
@@ -225,7 +275,7 @@ func isDark(m *mill.Mill) bool {
 
 // P19.26: the power goes, of any disk, at any operation, again and again, in Restarts too.
 func TestACrashIsNothing(t *testing.T) {
-	crashes, broken := 0, 0
+	crashes := 0
 	for seed := range uint64(300) {
 		rnd := rand.New(rand.NewPCG(seed, 1926))
 		w := anyWorld(rnd, kernelAt(seed), 10)
@@ -235,12 +285,8 @@ func TestACrashIsNothing(t *testing.T) {
 			plans = append(plans, faults(rnd, rnd.IntN(6), 900, api.FaultOff))
 		}
 		p := newPlay(t, rnd, open(t, disks, plans...), w, fmt.Sprintf("play %d: %v", seed, plans))
-		loaded := false
 		for {
-			e := p.life()
-			if e == api.OK {
-				e = p.rows()
-			}
+			e := p.whole()
 			if e == api.OK {
 				break
 			}
@@ -248,24 +294,10 @@ func TestACrashIsNothing(t *testing.T) {
 				t.Fatalf("P19.26: %s: %d", p.what, e)
 			}
 			crashes++
-			for tries := 0; ; tries++ {
-				e := p.m.Restart(keeps(rnd)...)
-				if e == api.OK {
-					break
-				}
-				broken++
-				if tries > 40 {
-					t.Fatalf("P19.26: %s: Restart: %d", p.what, e)
-				}
-			}
-			_, e = w.load(t, p.m, p.graph...)
-			if loaded && e != api.ErrThere && !isDark(p.m) {
-				t.Fatalf("P19.26: %s: the graph is gone: %d", p.what, e)
-			}
-			loaded = loaded || e == api.OK || e == api.ErrThere
+			p.revive()
 		}
 	}
-	if crashes < 300 || broken < 20 {
-		t.Errorf("too little was tried: %d crashes, %d Restarts", crashes, broken)
+	if crashes < 300 {
+		t.Errorf("too little was tried: %d crashes", crashes)
 	}
 }
