@@ -91,8 +91,10 @@ func TestAnyBudgetAndQuota(t *testing.T) {
 				small++
 			case api.DiskFull:
 				full++
-			default:
-				t.Fatalf("P19.23: %s: %d", what, e)
+			default: // a stripe whose clearing away found no room takes no more
+				if s.disks == 1 || e != api.ErrHalf {
+					t.Fatalf("P19.23: %s: %d", what, e)
+				}
 			}
 			return true
 		}

@@ -51,6 +51,16 @@ func programOf[P api.Program](p P, err api.Errno) (api.Program, api.Errno) {
 	return p, api.OK
 }
 
+// ofSize makes a program that asks for nothing but the number of vertices.
+func ofSize[P api.Program](made func(n uint32) (P, api.Errno)) func(values, api.Graph) (api.Program, api.Errno) {
+	return func(_ values, g api.Graph) (api.Program, api.Errno) { return programOf(made(g.N)) }
+}
+
+// bySize has the result of such a program looked at.
+func bySize(look func(n uint32, edges audit.Edges, s []api.State, room []uint64) (api.Verdict, api.Errno)) func(court) (api.Verdict, api.Errno) {
+	return func(c court) (api.Verdict, api.Errno) { return look(c.graph.N, c.edges, c.states, c.words) }
+}
+
 // What kernels tell of the whole, by the aggregate's words.
 
 func tellNone(api.State) [2]uint64      { return [2]uint64{} }

@@ -33,13 +33,11 @@ func flowKernels() map[string]kernel {
 		},
 		"wcc": {
 			back:   true,
-			maker:  func(_ values, g api.Graph) (api.Program, api.Errno) { return programOf(flows.WCC(g.N)) },
+			maker:  ofSize(flows.WCC),
 			row:    func(s api.State, _ int) string { return orNone(flows.Label(s)) },
 			tells:  tellFirst,
 			places: 1,
-			look: func(c court) (api.Verdict, api.Errno) {
-				return audit.Labels(c.graph.N, c.edges, c.states, c.words)
-			},
+			look:   bySize(audit.Labels),
 		},
 		"sssp": {
 			fields: []field{sourceField()},

@@ -33,9 +33,7 @@ func peelKernels() map[string]kernel {
 			row:    func(s api.State, _ int) string { return decimal(peels.CoreOf(s)) },
 			tells:  tellNone,
 			places: 2,
-			look: func(c court) (api.Verdict, api.Errno) {
-				return audit.Cores(c.graph.N, c.edges, c.states, c.words)
-			},
+			look:   bySize(audit.Cores),
 		},
 	}
 }
