@@ -81,6 +81,7 @@ func TestJobsRefused(t *testing.T) {
 		{"the text, ahead of the arguments", askOf("code", "program", "bad", "arg.k", "x").jobOf("r", "none"), api.ErrUnknown},
 		{"an argument that is no param", askOf("code", "program", "p", "arg.l", "1").jobOf("r", "none"), api.ErrField},
 		{"an argument without a name", askOf("code", "program", "p", "arg.", "1").jobOf("r", "none"), api.ErrField},
+		{"a param's name alone is no field", askOf("code", "program", "p", "k", "1").jobOf("r", "none"), api.ErrField},
 		{"a state is no param", askOf("code", "program", "p", "arg.a", "1").jobOf("r", "none"), api.ErrField},
 		{"no field of code", askOf("code", "program", "p", "arg.k", "1", "source", "1").jobOf("r", "none"), api.ErrField},
 		{"graph", askOf("sssp", "source", "99").jobOf("r", "none"), api.ErrGraph},

@@ -171,13 +171,20 @@ func TestAuditOfTooMany(t *testing.T) {
 	m := openAs(t, api.Setup{Disks: 1, Quota: roomy, Budget: 1 << 30})
 	g, e := m.Load(fmt.Sprintf("[graph]\nname = g\nvertices = %d\nparts = 2\n", api.MaxLength+1), nil)
 	must(t, "P19.3", e)
-	text, e := roster.FromRun(api.RunMark{Run: "r", Graph: "g", GraphSum: g.Sum, Code: crc32.ChecksumIEEE([]byte("conductance\nseed=0")), Words: 2, Gen: 1, Round: 1, Done: true, Stats: api.Stats{Rounds: 1}})
-	must(t, "FromRun", e)
-	must(t, "Publish", reel.Publish(m.Disk(0), "r.run", []byte(text)))
-	if v, e := m.Audit(askOf("conductance").job()); e != api.ErrLength || v != (api.Verdict{}) || mill.Class(e) != api.TooSmall {
-		t.Errorf("P19.7: %d, %+v", e, v)
+	mark := api.RunMark{Run: "r", Graph: "g", GraphSum: g.Sum, Code: crc32.ChecksumIEEE([]byte("conductance\nseed=0")), Words: 2, Gen: 1, Round: 1, Stats: api.Stats{Rounds: 1}}
+	for _, c := range []struct {
+		done bool
+		want api.Errno
+	}{{false, api.ErrRun}, {true, api.ErrLength}} {
+		mark.Done = c.done
+		text, e := roster.FromRun(mark)
+		must(t, "FromRun", e)
+		must(t, "Publish", reel.Publish(m.Disk(0), "r.run", []byte(text)))
+		if v, e := m.Audit(askOf("conductance").job()); e != c.want || v != (api.Verdict{}) {
+			t.Errorf("P19.7: done %v: %d, %+v", c.done, e, v)
+		}
+		still(t, m, "P19.7")
 	}
-	still(t, m, "P19.7")
 }
 
 // P19.7: the room of two words a vertex is longer than a lease, where there are more than half of MaxLength vertices: Audit takes it all the same.

@@ -134,6 +134,38 @@ func TestRestartKeeps(t *testing.T) {
 	}
 }
 
+// P19.9: which Keep is whose: a file of a disk that is not synced, made by hand beside the stripe's, has just the bytes that its disk's Keep says.
+func TestWhoseKeep(t *testing.T) {
+	for _, disks := range []int{1, 3, 5} {
+		for said := range disks + 2 {
+			m := open(t, disks)
+			var keep []api.Keep
+			for i, d := range disksOf(m) {
+				must(t, "Create", d.Create("zz")) // the last one by name
+				must(t, "SyncDir", d.SyncDir())
+				must(t, "Append", d.Append("zz", make([]byte, 99)))
+				_, files := d.Used()
+				if i < said {
+					keep = append(keep, api.Keep{Bytes: append(make([]int64, files-1), int64(10+i))})
+				}
+			}
+			for len(keep) < said {
+				keep = append(keep, api.Keep{Dir: 7, Bytes: []int64{7}})
+			}
+			must(t, "P19.9", m.Restart(keep...))
+			for i, d := range disksOf(m) {
+				want := int64(0)
+				if i < said {
+					want = int64(10 + i)
+				}
+				if size, e := d.Size("zz"); e != api.OK || size != want {
+					t.Errorf("P19.9: %d Keeps for %d disks: disk %d has kept %d, want %d", said, disks, i, size, want)
+				}
+			}
+		}
+	}
+}
+
 // P19.9: what is handed to Restart is not changed.
 func TestKeepsAreTheCallers(t *testing.T) {
 	numbers := []int64{5, 6, 7}

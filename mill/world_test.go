@@ -295,6 +295,11 @@ func TestACrashIsNothing(t *testing.T) {
 			}
 			crashes++
 			p.revive()
+			if disks > 1 && rnd.IntN(3) == 0 {
+				if e := p.m.Swap(rnd.IntN(disks)); e != api.OK && !isDark(p.m) {
+					t.Fatalf("P19.26: %s: Swap: %d", p.what, e)
+				}
+			}
 		}
 	}
 	if crashes < 300 {
