@@ -44,7 +44,7 @@ func (m *Mill) Restart(keep ...api.Keep) api.Errno {
 	if !m.made() {
 		return api.ErrNil
 	}
-	m.table.Close()
+	m.shut()
 	for i, d := range m.drives {
 		var kept api.Keep
 		if i < len(keep) {

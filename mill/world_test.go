@@ -45,7 +45,7 @@ func TestOneTruth(t *testing.T) {
 		for try := range 3 {
 			what := fmt.Sprintf("seed %d, try %d, %+v", seed, try, w)
 			s := anyShape(rnd, w)
-			m := open(t, s.disks)
+			m := openAs(t, api.Setup{Disks: s.disks, Quota: roomy - rnd.Int64N(1<<20), Budget: 20000 + rnd.IntN(wealthy)})
 			x := w.shuffled(rnd)
 			g, e := m.Load(x.config(s.format, s.graph...), x.input(t, s.format))
 			must(t, what, e)
@@ -240,7 +240,7 @@ func TestADiskMayFail(t *testing.T) {
 	for seed := range uint64(250) {
 		rnd := rand.New(rand.NewPCG(seed, 1925))
 		w := anyWorld(rnd, kernelAt(seed), 10)
-		disks := 3 + rnd.IntN(3)
+		disks := 3 + rnd.IntN(6)
 		bad := rnd.IntN(disks)
 		plans := make([][]api.Fault, disks)
 		plans[bad] = faults(rnd, 1+rnd.IntN(6), 800, slices.DeleteFunc(slices.Clone(anyFault), func(k int) bool { return k == api.FaultOff })...)
